@@ -43,22 +43,73 @@ func TestOrderOfPlacesAndSizes(t *testing.T) {
 	}
 }
 
-// A start that is too large has a code of its own, in a text that is not.
+// A start that is too large has a code of its own, in a text that is not, and whichever node is asked for.
 func TestStartsThatAreTooLarge(t *testing.T) {
 	nodes := nodesOf(textNode(-1, "x"), element(-1, "p"), sized(1, 161), textNode(2, "y"), textNode(1, "z"), element(-1, "br"))
 	if size := len(textInside(nodes, -1)); size > 240 {
 		t.Errorf("the text has %d bytes: that says too little", size)
 	}
-	for at, code := range []int64{impl.OK, impl.ErrLarge, impl.ErrLarge, impl.OK, impl.OK, impl.OK} {
-		wantCodes(t, nodes, int64(at), impl.ErrLarge, code, impl.ErrLarge)
+	wantNoPlaceWritten(t, nodes)
+	nodes[2] = sized(1, 160)
+	for at, text := range map[int64]string{0: "x", 3: "y", 4: "z", 5: "<br>"} {
+		wantNodeText(t, nodes, at, text)
 	}
-	// An element with a code that stands outside of a node is none of that node's.
-	wantNodeText(t, nodes, 0, "x")
-	wantNodeText(t, nodes, 3, "y")
-	wantNodeText(t, nodes, 4, "z")
-	wantNodeText(t, nodes, 5, "<br>")
-	wantNodeText(t, nodesOf(sized(-1, 161), element(-1, "p"), textNode(1, "a"), sized(-1, 161)), 1, "<p>a</p>")
-	wantNodeText(t, nodesOf(sized(-1, 161), element(0, "b")), 1, "<b></b>")
+}
+
+// wantNoPlaceWritten asks a tree with a start that is too large at each of its places, and at what is no place of it.
+func wantNoPlaceWritten(t *testing.T, nodes []impl.Node) {
+	t.Helper()
+	for at := range nodes {
+		wantCodes(t, nodes, int64(at), impl.ErrLarge, impl.ErrLarge, impl.ErrLarge)
+	}
+	for _, at := range noPlaces(len(nodes)) {
+		wantCodes(t, nodes, at, impl.ErrLarge, impl.ErrRange, impl.ErrLarge)
+	}
+}
+
+// tooLargeStarts are elements whose start is too large: by one byte, by many, by what is escaped, by attributes, by a void one.
+func tooLargeStarts(up int64) []impl.Node {
+	return []impl.Node{
+		sized(up, 161), sized(up, 240), sized(up, 600), element(up, "i", attr("title", strings.Repeat("\"", 26))), element(up, "i", attr("title", strings.Repeat("\x00", 155))), element(up, "p", manyAttrs(20)...),
+		element(up, "img", attr("src", strings.Repeat("&", 40))), element(up, "br", attr("a", strings.Repeat("x", 80)), attr("b", strings.Repeat("y", 80))),
+	}
+}
+
+// An element with a code ahead of a node, behind it, around it and in it: each keeps every place of the tree from an answer.
+func TestStartsThatAreTooLargeAnywhere(t *testing.T) {
+	for _, large := range tooLargeStarts(-1) {
+		in := large
+		in.Up = 0
+		wantNoPlaceWritten(t, nodesOf(large))
+		wantNoPlaceWritten(t, nodesOf(large, textNode(-1, "x")))
+		wantNoPlaceWritten(t, nodesOf(textNode(-1, "x"), large))
+		wantNoPlaceWritten(t, nodesOf(large, element(-1, "b"), textNode(1, "x"), textNode(-1, "y")))
+		wantNoPlaceWritten(t, nodesOf(element(-1, "b"), textNode(0, "x"), textNode(-1, "y"), large))
+		wantNoPlaceWritten(t, nodesOf(element(-1, "b"), in, textNode(0, "x"), element(-1, "i"), textNode(3, "y")))
+		wantNoPlaceWritten(t, nodesOf(element(-1, "b"), element(0, "i"), textNode(1, "x"), in, textNode(-1, "y")))
+		wantNoPlaceWritten(t, append(flatNodes(59), large))
+		wantNoPlaceWritten(t, append(nodesOf(large), flatNodes(59)...))
+		wantNoPlaceWritten(t, nodesOf(large, element(-1, "br"), large))
+		if !impl.IsVoid(large.Tag) {
+			wantNoPlaceWritten(t, nodesOf(large, textNode(0, "x")))
+			wantNoPlaceWritten(t, nodesOf(large, element(0, "b"), textNode(1, "x"), element(-1, "br")))
+			wantNoPlaceWritten(t, nodesOf(element(-1, "b"), in, element(1, "i"), textNode(2, "x"), textNode(-1, "y")))
+		}
+	}
+}
+
+// A start of 160 bytes is not too large: beside it every node has its text.
+func TestStartsThatAreJustNotTooLarge(t *testing.T) {
+	nodes := nodesOf(sized(-1, 160), textNode(-1, "x"), sized(-1, 160), element(2, "b"), textNode(3, "y"), sized(-1, 160))
+	wantNodeText(t, nodes, 1, "x")
+	wantNodeText(t, nodes, 3, "<b>y</b>")
+	wantNodeText(t, nodes, 4, "y")
+	wantCodes(t, nodes, 1, impl.ErrLarge, impl.OK, impl.ErrLarge)
+	for _, at := range []int{0, 2, 5} {
+		large := behindNodes(nodes)
+		large[at] = sized(-1, 161)
+		wantNoPlaceWritten(t, large)
+	}
 }
 
 // A node that is short in a tree that is too large has its text.

@@ -61,7 +61,7 @@ func openOf(tag string, attrs []impl.Attr) impl.TextResult {
 	return impl.TextResult{Text: text}
 }
 
-// boundOf is what the document asks of a text of these nodes: the code of each start, and the size.
+// boundOf is what the document asks of a text that stands in these nodes: the code of each start of them all, and its own size.
 func boundOf(nodes []impl.Node, text string) impl.BytesResult {
 	for _, n := range nodes {
 		if n.Tag == "" {
@@ -90,13 +90,7 @@ func nodeWrittenOf(nodes []impl.Node, at int64) impl.BytesResult {
 	if at < 0 || at >= int64(len(nodes)) {
 		return impl.BytesResult{Code: impl.ErrRange}
 	}
-	own := nodesOf(nodes[at])
-	for other := range nodes {
-		if isIn(nodes, other, int(at)) {
-			own = append(own, nodes[other])
-		}
-	}
-	return boundOf(own, textOfNode(nodes, int(at)))
+	return boundOf(nodes, textOfNode(nodes, int(at)))
 }
 
 // spanToldOf is what the document asks of SpanOf, where WriteTree has no code.
